@@ -94,3 +94,40 @@ def mean_added(weights, n):
     # The draw behind n others adds a kind just where it is of a kind that these n don't have.
     above = sum([w * power(total - w, n) for w in weights])
     return lowest_terms(above, power(total, n + 1))
+
+
+def even_mean(weights, n):
+    """What the average would be if as many kinds were each as likely."""
+    return mean_count([1] * len(weights), n)
+
+
+def draws_needed(weights, a, b, most):
+    """The least n for which the average is a by b, or more; None where no n up to most has that."""
+    total = sum(weights)
+    below = 1
+    # For each kind, how heavy the rows are that don't have it. Powers grow along, since n may go far.
+    missed = [1] * len(weights)
+    for n in range(most + 1):
+        above = len(weights) * below - sum(missed)
+        if above * b >= a * below:
+            return n
+        below = below * total
+        missed = [heavy * (total - w) for heavy, w in zip(missed, weights)]
+    return None
+
+
+def chance_seen(weights, i, n):
+    """How likely kind i is drawn, once or oftener."""
+    total = sum(weights)
+    below = power(total, n)
+    return lowest_terms(below - power(total - weights[i], n), below)
+
+
+def chance_both(weights, i, j, n):
+    """How likely kinds i and j, which are two, are both drawn."""
+    total = sum(weights)
+    below = power(total, n)
+    lacking_one = power(total - weights[i], n) + power(total - weights[j], n)
+    # Rows that have neither are among those without i and among those without j: they count once.
+    lacking_both = power(total - weights[i] - weights[j], n)
+    return lowest_terms(below - lacking_one + lacking_both, below)

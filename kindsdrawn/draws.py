@@ -1,16 +1,21 @@
 """The calls on a few kinds with weights: one list of calls in, one list of their answers out."""
 
-from kindsdrawn.chances import chance_of_count, likeliest_count, mean_added, mean_count, rows_by_count
+from kindsdrawn.chances import chance_both, chance_of_count, chance_seen, draws_needed, even_mean
+from kindsdrawn.chances import likeliest_count, mean_added, mean_count, rows_by_count
 
 NOT_BEGUN = -11
 NO_KINDS = -6
 NO_SUCH_KIND = -2
 NOT_ALLOWED = -22
 NO_ROOM = -28
+NOT_TO_BE_HAD = -33
 
 MOST_KINDS = 6
 MOST_WEIGHT = 20
 MOST_DRAWS = 12
+MOST_DRAWS_NEEDED = 399
+MOST_ABOVE = 100
+MOST_BELOW = 100
 
 BEGIN = 0
 KIND = 1
@@ -21,14 +26,45 @@ ALL = 5
 MEAN = 6
 ADDS = 7
 LIKELIEST = 8
+SEEN = 9
+EVEN = 10
+BOTH = 11
+NEEDED = 12
+LEVEL = 13
+WOULD = 14
+MOST = 15
+TOLD = 16
 
-# By a call's number. Those behind LIKELIEST are not built yet, but before a begin they too are only refused.
+# By a call's number.
 ARGUMENT_COUNTS = (0, 1, 2, 1, 2, 1, 1, 1, 1, 2, 1, 3, 2, 2, 3, 1, 0)
 
 
 def is_weight(w):
     """Whether a kind may have this weight."""
     return 1 <= w <= MOST_WEIGHT
+
+
+def pair_refusal(weights, i, j):
+    """The number that refuses i and j as two kinds, or 0 where they are."""
+    if max(i, j) >= len(weights):
+        return NO_SUCH_KIND
+    if i == j:
+        return NOT_ALLOWED
+    return 0
+
+
+def can_level(weights, i, j):
+    """Whether each of the two kinds can have half of what they weigh together."""
+    return (weights[i] + weights[j]) % 2 == 0
+
+
+def leveled(weights, i, j):
+    """The weights as they are behind a level of the two kinds; those given stay as they are."""
+    half = (weights[i] + weights[j]) // 2
+    behind = list(weights)
+    behind[i] = half
+    behind[j] = half
+    return behind
 
 
 class Kinds:
@@ -66,12 +102,56 @@ class Kinds:
         self.weights.pop(i)
         return [len(self.weights)]
 
+    def level(self, i, j):
+        refusal = pair_refusal(self.weights, i, j)
+        if refusal < 0:
+            return [refusal]
+        if not can_level(self.weights, i, j):
+            return [NOT_TO_BE_HAD]
+        self.weights = leveled(self.weights, i, j)
+        return [self.weights[i]]
+
+
+def answer_seen(weights, i, n):
+    if i >= len(weights):
+        return [NO_SUCH_KIND]
+    if n > MOST_DRAWS:
+        return [NOT_ALLOWED]
+    return [0] + chance_seen(weights, i, n)
+
+
+def answer_both(weights, i, j, n):
+    refusal = pair_refusal(weights, i, j)
+    if refusal < 0:
+        return [refusal]
+    if n > MOST_DRAWS:
+        return [NOT_ALLOWED]
+    return [0] + chance_both(weights, i, j, n)
+
+
+def answer_would(weights, i, j, n):
+    refusal = pair_refusal(weights, i, j)
+    if refusal < 0:
+        return [refusal]
+    if n > MOST_DRAWS:
+        return [NOT_ALLOWED]
+    if not can_level(weights, i, j):
+        return [NOT_TO_BE_HAD]
+    return [0] + mean_count(leveled(weights, i, j), n)
+
+
+def answer_needed(weights, a, b):
+    if b < 1 or b > MOST_BELOW or a > MOST_ABOVE:
+        return [NOT_ALLOWED]
+    n = draws_needed(weights, a, b, MOST_DRAWS_NEEDED)
+    if n is None:
+        return [NOT_TO_BE_HAD]
+    return [n]
+
 
 def answer_of_draws(weights, number, given):
-    """What a call from CHANCE to LIKELIEST answers; the first of its arguments is how many draws."""
+    """What a call from CHANCE to LIKELIEST, or EVEN, answers; the first of its arguments is how many draws."""
     n = given[0]
-    if len(weights) == 0:
-        return [NO_KINDS]
     if n > MOST_DRAWS:
         return [NOT_ALLOWED]
     if number == CHANCE:
@@ -83,7 +163,26 @@ def answer_of_draws(weights, number, given):
         return [0] + mean_count(weights, n)
     if number == ADDS:
         return [0] + mean_added(weights, n)
+    if number == EVEN:
+        return [0] + even_mean(weights, n)
     return [likeliest_count(weights, n)]
+
+
+def answer_of_some_kinds(weights, number, given):
+    """What a call answers that only tells of the kinds, where there are some."""
+    if number == SEEN:
+        return answer_seen(weights, given[0], given[1])
+    if number == BOTH:
+        return answer_both(weights, given[0], given[1], given[2])
+    if number == NEEDED:
+        return answer_needed(weights, given[0], given[1])
+    if number == WOULD:
+        return answer_would(weights, given[0], given[1], given[2])
+    if number == MOST:
+        return [min(given[0], len(weights))]
+    if number == TOLD:
+        return [len(weights)] + weights
+    return answer_of_draws(weights, number, given)
 
 
 def answer(kinds, number, given):
@@ -98,9 +197,12 @@ def answer(kinds, number, given):
         return kinds.weight(given[0], given[1])
     if number == OUT:
         return kinds.out(given[0])
-    if number <= LIKELIEST:
-        return answer_of_draws(kinds.weights, number, given)
-    raise KeyError(number)
+    if number == LEVEL:
+        return kinds.level(given[0], given[1])
+    # All the calls that are left name -6, and it goes ahead of their other refusals.
+    if len(kinds.weights) == 0:
+        return [NO_KINDS]
+    return answer_of_some_kinds(kinds.weights, number, given)
 
 
 def answers(calls):

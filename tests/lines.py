@@ -59,6 +59,28 @@ def told_fraction(value):
     return [0, value.numerator, value.denominator]
 
 
+def value(told):
+    """A fraction as it is told, as one number."""
+    nought, above, below = told
+    if nought != 0:
+        raise AssertionError(f"not told as a fraction: {told}")
+    return Fraction(above, below)
+
+
+def counted_rows(weights, n, wanted):
+    """How likely n draws are a row of which wanted(row) holds, all rows gone through one by one."""
+    held = 0
+    together = 0
+    for row in product(range(len(weights)), repeat=n):
+        heavy = 1
+        for i in row:
+            heavy *= weights[i]
+        together += heavy
+        if wanted(row):
+            held += heavy
+    return Fraction(held, together)
+
+
 def counted(weights, n):
     """For 0, 1 and so on kinds: all rows of n draws that have just so many, gone through one by one."""
     heavy = [0] * (len(weights) + 1)
@@ -86,3 +108,11 @@ SMALL = [
 ]
 
 SMALL_CASES = [(weights, n) for weights, most in SMALL for n in range(most + 1)]
+
+# Great weights and many kinds, where rows are too many to be gone through.
+WIDE = ([1], [20], [1, 1], [1, 20], [3, 3, 3], [1] * 6, [20] * 6, [20, 1, 20, 1, 20, 1], [20, 19, 18, 17, 16, 1])
+
+
+def pairs(weights):
+    """Every two kinds, in both orders."""
+    return [(i, j) for i in range(len(weights)) for j in range(len(weights)) if i != j]

@@ -28,6 +28,34 @@ class Form(unittest.TestCase):
         ]
         self.assertEqual(answers(calls), told)
 
+    def test_each_later_call_as_its_numbers_stand(self):
+        calls = [
+            0, 1, 1, 1, 2, 1, 3,
+            9, 2, 2, 10, 2, 11, 0, 1, 2, 12, 3, 2, 14, 0, 2, 2, 15, 2, 16, 13, 0, 2, 16, 6, 2,
+        ]
+        told = [
+            1, 0,
+            1, 0,
+            1, 1,
+            1, 2,
+            3, 0, 3, 4,
+            3, 0, 5, 3,
+            3, 0, 1, 9,
+            1, 2,
+            3, 0, 5, 3,
+            1, 2,
+            4, 3, 1, 2, 3,
+            1, 2,
+            4, 3, 2, 2, 2,
+            3, 0, 5, 3,
+        ]
+        self.assertEqual(answers(calls), told)
+
+    def test_how_long_told_is(self):
+        for count in range(1, 7):
+            told = answers(as_list(begun([9] * count) + [("told",)]))
+            self.assertEqual(told[-(count + 2):], [count + 1, count] + [9] * count)
+
     def test_how_long_all_is(self):
         for count in range(1, 7):
             told = answers(as_list(begun([2] * count) + [("all", 0)]))
@@ -36,6 +64,9 @@ class Form(unittest.TestCase):
     def test_a_refusal_is_its_number_alone(self):
         calls = [4, 1, 1, 0, 4, 1, 1, 5, 13, 1, 0, 1, 5, 4, 13, 1, 5, 13, 2, 1, 5, 3, 7]
         told = [1, -11, 1, 0, 1, -6, 1, -6, 1, -22, 1, 0, 1, -22, 1, -22, 1, -2, 1, -2]
+        self.assertEqual(answers(calls), told)
+        calls = [16, 0, 16, 13, 0, 1, 1, 5, 9, 1, 13, 11, 0, 0, 1, 12, 2, 1, 14, 0, 1, 1, 12, 1, 0, 16]
+        told = [1, -11, 1, 0, 1, -6, 1, -2, 1, 0, 1, -2, 1, -22, 1, -33, 1, -2, 1, -22, 2, 1, 5]
         self.assertEqual(answers(calls), told)
 
     def test_eighty_calls(self):
@@ -48,11 +79,18 @@ class Form(unittest.TestCase):
     def test_eighty_calls_of_the_longest(self):
         line = begun([1, 20]) + [("chance", 12, GREATEST)] * 77
         self.assertEqual(answers(as_list(line)), [1, 0, 1, 0, 1, 1] + [3, 0, 0, 1] * 77)
+        line = begun([2, 20]) + [("would", 1, 0, 2)] * 77
+        self.assertEqual(answers(as_list(line)), [1, 0, 1, 0, 1, 1] + [3, 0, 3, 2] * 77)
+        line = begun([20] * 5 + [1]) + [("needed", 6, 1)] * 73
+        self.assertEqual(answers(as_list(line))[14:], [1, -33] * 73)
 
     def test_whole_numbers_in_a_list(self):
         line = begun([1, 20, 7]) + [
             ("weight", 0, 2), ("chance", 3, 2), ("chance", 0, 0), ("chance", 3, 9), ("all", 12), ("mean", 0),
-            ("mean", 12), ("adds", 12), ("likeliest", 12), ("out", 0), ("out", 9), ("kind", 0),
+            ("mean", 12), ("adds", 12), ("likeliest", 12), ("seen", 1, 12), ("seen", 1, 0), ("even", 12),
+            ("both", 0, 1, 12), ("both", 0, 1, 0), ("needed", 0, 1), ("needed", 5, 2), ("needed", 3, 1),
+            ("would", 0, 1, 12), ("would", 0, 2, 12), ("most", 0), ("most", GREATEST), ("told",), ("level", 0, 1),
+            ("level", 0, 2), ("level", 0, 0), ("out", 0), ("out", 9), ("kind", 0),
         ]
         told = answers(as_list(line))
         self.assertIs(type(told), list)
@@ -61,7 +99,10 @@ class Form(unittest.TestCase):
 
 
 class Kept(unittest.TestCase):
-    CALLS = as_list(begun([1, 2, 3]) + [("all", 3), ("weight", 0, 20), ("out", 1), ("all", 3), ("kind", 0)])
+    CALLS = as_list(begun([1, 2, 3]) + [
+        ("all", 3), ("seen", 0, 3), ("both", 0, 2, 3), ("would", 0, 2, 3), ("needed", 5, 2), ("even", 3), ("told",),
+        ("level", 0, 2), ("told",), ("weight", 0, 20), ("out", 1), ("all", 3), ("most", 9), ("kind", 0), ("told",),
+    ])
 
     def test_what_is_handed_in_stays_as_it_was(self):
         calls = list(self.CALLS)

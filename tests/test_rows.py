@@ -1,4 +1,4 @@
-"""Point 2: chance, all, likeliest."""
+"""Point 2: chance, all, likeliest, most."""
 
 import unittest
 from fractions import Fraction
@@ -131,6 +131,28 @@ class Likeliest(unittest.TestCase):
         self.assertEqual(ask([20, 1], "likeliest", 12), [1])
         self.assertEqual(ask([1] * 6, "likeliest", 12), [5])
         self.assertEqual(ask([20, 1, 1, 1, 1, 1], "likeliest", 12), [3])
+
+
+class Most(unittest.TestCase):
+    def test_as_counted_row_by_row(self):
+        for weights, n in SMALL_CASES:
+            greatest = max(k for k, heavy in enumerate(counted(weights, n)) if heavy > 0)
+            self.assertEqual(ask(weights, "most", n), [greatest])
+
+    def test_no_more_than_draws_and_no_more_than_kinds(self):
+        for count in range(1, 7):
+            for n in range(20):
+                self.assertEqual(ask([3] * count, "most", n), [n if n < count else count])
+
+    def test_any_number_of_draws(self):
+        for n in (12, 13, 399, 400, 2 ** 31, 2 ** 32 - 2, GREATEST):
+            self.assertEqual(ask([20], "most", n), [1])
+            self.assertEqual(ask([1, 20, 5], "most", n), [3])
+            self.assertEqual(ask([1, 2, 3, 4, 5, 6], "most", n), [6])
+
+    def test_no_kinds(self):
+        for n in (0, 1, 12, 13, GREATEST):
+            self.assertEqual(ask([], "most", n), [-6])
 
 
 if __name__ == "__main__":
